@@ -1,0 +1,1 @@
+"""Amounts whose units come out right, whole."""
