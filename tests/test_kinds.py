@@ -88,6 +88,28 @@ class Together(unittest.TestCase):
         self.assertEqual(added("unit a;", "let x = a;", "unit b;", "let y = b; let w = y + b; let v = x + a;"), 6)
 
 
+class Corners(unittest.TestCase):
+    def test_fractions(self):
+        self.assertEqual(added("let a = 1 / 3 + 1 / 6; let b = 0.1 + 0.2; let c = a + b;"), 3)
+
+    def test_what_would_divide_by_nothing_goes_together(self):
+        self.assertEqual(added("unit m; let a = if 0 < 1 then m else m / 0; let b = 1 / 0; let c = 0 ^ -1;"), 4)
+
+    def test_an_amount_that_is_used_a_hundred_times(self):
+        self.assertEqual(added("unit m; let a = 3 * m; let b = " + "a+" * 99 + "a;"), 3)
+        self.assertEqual(added("unit m; let a = 3 * m; let b = " + "a*" * 99 + "a; let c = b + m;"), -61)
+
+    def test_functions_that_call_one_another_twice_each_twenty_deep(self):
+        rows = ["unit m;", "fn f0(x) = x + m;"]
+        for k in range(1, 21):
+            rows.append("fn f%d(x) = f%d(x) + f%d(x);" % (k, k - 1, k - 1))
+        self.assertEqual(added("".join(rows) + "let y = f20(m);"), 23)
+        self.assertEqual(added(*rows, "let y = f20(1);"), -61)
+
+    def test_a_name_that_a_sheet_may_have_anyway(self):
+        self.assertEqual(added("let x = 1; let y = x; let let_ = y;"), 3)
+
+
 class KindsFound(unittest.TestCase):
     def test_the_corners(self):
         self.assertEqual(kind_of("let z = 0;", "z"), ([], {"p0": 1}, 1))
