@@ -2,8 +2,17 @@
 
 import unittest
 
-from tests.asking import BACK, START, add, ask
+from tests.asking import BACK, EIGHT, START, TEXT, TWENTY_FOUR, add, ask, asked, unit, value
 from unitsheet.amounts import answers
+
+
+# All six calls, with answers of all four forms and with refusals.
+SIX = (
+    START + add("unit m;") + unit("2 * m") + value("3 * m", "2 * m") + TEXT
+    + BACK + unit("m") + value("1", "0") + TEXT)
+TOLD_OF_SIX = (
+    [2, 0, 0] + [2, 0, 1] + [36, 1, 0, 8, 1] + [0] * 7 + [24] + TWENTY_FOUR + [3, 2, 3, 2]
+    + [9, 3, 7] + list(b"unit m;") + [2, 0, 0] + [2, 0, -22] + [2, 0, -33] + [2, 3, 0])
 
 
 class Interface(unittest.TestCase):
@@ -18,6 +27,52 @@ class Interface(unittest.TestCase):
         told = answers(START + add("unit m;") + add("unit m;") + BACK)
         self.assertIs(type(told), list)
         self.assertEqual({type(number) for number in told}, {int})
+
+    def test_all_six_calls_in_one_list(self):
+        self.assertEqual(answers(SIX), TOLD_OF_SIX)
+        self.assertIs(type(answers(SIX)), list)
+        self.assertEqual({type(number) for number in answers(SIX)}, {int})
+
+    def test_all_six_calls_leave_the_list_as_it_was(self):
+        calls = list(SIX)
+        answers(calls)
+        self.assertEqual(calls, SIX)
+
+    def test_all_six_calls_when_asked_twice(self):
+        calls = list(SIX)
+        first = answers(calls)
+        self.assertEqual(answers(calls), first)
+        first.clear()
+        self.assertEqual(answers(calls), TOLD_OF_SIX)
+
+    def test_what_is_handed_in_is_never_changed(self):
+        class Watched(list):
+            def changed(self, *given):
+                raise AssertionError("the list is changed")
+
+            append = extend = insert = pop = remove = clear = sort = reverse = changed
+            __setitem__ = __delitem__ = __iadd__ = __imul__ = changed
+
+        self.assertEqual(answers(Watched(SIX)), TOLD_OF_SIX)
+
+    def test_a_hundred_calls_of_all_sorts(self):
+        six = [add("unit m;"), unit("m"), value("m", "2 * m"), TEXT, BACK, unit("m"), value("m", "1")]
+        comes = [1, 0, 8, 1] + EIGHT[1:] + [24] + TWENTY_FOUR
+        told = [[0, 1], comes, [2, 1, 2], [3, 7] + list(b"unit m;"), [0, 0], [0, -22], [0, -22]]
+        self.assertEqual(asked(*(six * 14 + [TEXT])), told * 14 + [[3, 0]])
+
+    def test_a_row_may_have_the_numbers_of_calls(self):
+        told = asked(add([0, 1, 2, 3, 4, 5]), unit([3, 1, 3]), value([4, 0], [5]), value([], []), unit([]), TEXT)
+        self.assertEqual(told, [[0, -71]] * 5 + [[3, 0]])
+
+    def test_long_rows_one_behind_another(self):
+        long = "1" * 9000
+        told = asked(unit(long), value("!" * 9000, long), value("1", long), value("1" * 8193, "1"), TEXT)
+        self.assertEqual(told, [[0, -28]] * 4 + [[3, 0]])
+
+    def test_nothing_of_a_formula_is_kept(self):
+        answers(START + add("unit m; let x = 3 * m;") + value("x", "m") + unit("x"))
+        self.assertEqual(asked(value("x", "m"), unit("m"), TEXT), [[0, -22], [0, -22], [3, 0]])
 
     def test_a_hundred_calls(self):
         calls = [add("unit m;"), BACK] * 49 + [BACK]

@@ -87,6 +87,14 @@ class Forms(unittest.TestCase):
         for name, node in walked(ast.ListComp):
             self.assertEqual(len(node.generators), 1, (name, node.lineno))
 
+    def test_no_powers(self):
+        self.assertEqual(walked(ast.Pow), [])
+
+    def test_is_stands_beside_none_true_and_false_alone(self):
+        for name, node in walked(ast.Compare):
+            if any(isinstance(sign, (ast.Is, ast.IsNot)) for sign in node.ops):
+                self.assertIn(ast.unparse(node.comparators[0]), ("None", "True", "False"), (name, node.lineno))
+
     def test_imports_are_the_package_s_own(self):
         for name, node in walked(ast.ImportFrom):
             self.assertEqual(node.level, 0, (name, node.lineno))

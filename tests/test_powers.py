@@ -143,7 +143,8 @@ def rank_and_minor(matrix):
     rank = 0
     minor = 1
     while any(any(row[rank:]) for row in rows[rank:]):
-        spots = [(abs(rows[i][j]), i, j) for i in range(rank, len(rows)) for j in range(rank, len(rows[0])) if rows[i][j]]
+        spots = [
+            (abs(rows[i][j]), i, j) for i in range(rank, len(rows)) for j in range(rank, len(rows[0])) if rows[i][j]]
         best = min(spots)
         swap(rows, rank, best[1], best[2])
         if not reduced(rows, rank):

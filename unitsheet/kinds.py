@@ -15,7 +15,6 @@ from unitsheet.powers import (
     solve,
 )
 from unitsheet.refusals import TooMuch
-from unitsheet.tokens import is_zero
 
 
 # The parameters' kinds (of) and that of what comes, in places 0 up to how many there are.
@@ -63,11 +62,11 @@ class Finder:
             self.put_call(step[1][0], step[1][1])
         elif what == "^":
             self.put_product(raised(self.stack.pop(), step[1]))
-        elif what != "minus":
+        elif what not in ("minus", "else"):
             self.join_two(what)
 
     def put_number(self, number):
-        if is_zero(number):
+        if number.over == 0:
             self.stack.append(place_product(self.new_places(1)))
         else:
             self.stack.append(nothing())
@@ -122,6 +121,14 @@ def found_kind(item, kinds):
     if len(finder.equations) > MOST_EQUATIONS:
         raise TooMuch()
     return told_kind(finder, solve(finder.equations, finder.places))
+
+
+# What comes of two items, each with places of its own, can be alike.
+def check_alike(one, other):
+    places = one.places + other.places
+    if places > PLACES:
+        raise TooMuch()
+    solve([divided(one.comes, moved(other.comes, one.places))], places)
 
 
 def told_kind(finder, filling):

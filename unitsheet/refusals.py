@@ -18,6 +18,12 @@ class NotRight(Refusal):
         Refusal.__init__(self, -22)
 
 
+# Something divided by 0.
+class DividedByNothing(Refusal):
+    def __init__(self):
+        Refusal.__init__(self, -33)
+
+
 # More bytes, tokens, items, units, parameters, places or equations than there may be.
 class TooMuch(Refusal):
     def __init__(self):
@@ -30,13 +36,19 @@ class NotTogether(Refusal):
         Refusal.__init__(self, -61)
 
 
-# Bytes that are no sheet by tokens or by grammar.
+# A formula that takes more steps than there may be.
+class TooManySteps(Refusal):
+    def __init__(self):
+        Refusal.__init__(self, -62)
+
+
+# Bytes that are no sheet, or no formula, by tokens or by grammar.
 class NoSheet(Refusal):
     def __init__(self):
         Refusal.__init__(self, -71)
 
 
-# An exponent beyond its bounds.
+# An exponent, or a number of a fraction, beyond its bounds.
 class TooFar(Refusal):
     def __init__(self):
         Refusal.__init__(self, -75)

@@ -1,15 +1,18 @@
-"""Sheets that are right and go together, and what is put behind them.
+"""Sheets that are right and go together, what is put behind them, and formulas that are asked of them.
 
 Such a sheet ends where an item does, and what is put behind it changes nothing of what is before it. So of the
 longer sheet only the bytes that are new are read; what is answered is the same as if all of it were.
 """
 
-from unitsheet.grammar import items_of
+from unitsheet.grammar import formula_of, items_of
 from unitsheet.kinds import found_kind, unit_kind
 from unitsheet.refusals import NotRight, TooMuch
 from unitsheet.tokens import tokens_of
 
 MOST_BYTES = 8192
+MOST_BYTES_WITH_FORMULA = 8000
+# A formula is read as an amount: let, its name and = before it, ; behind it.
+TOKENS_ABOUT_FORMULA = 4
 MOST_TOKENS = 2048
 MOST_ITEMS = 64
 MOST_UNITS = 8
@@ -25,6 +28,13 @@ class Sheet:
         self.kinds = kinds
 
 
+# A formula that is right behind a sheet, read as an amount, and its kind.
+class Formula:
+    def __init__(self, item, kind):
+        self.item = item
+        self.kind = kind
+
+
 def empty_sheet():
     return Sheet([], 0, {}, {})
 
@@ -34,14 +44,30 @@ def longer_sheet(sheet, row):
     if len(sheet.row) + len(row) > MOST_BYTES:
         raise TooMuch()
     tokens = tokens_of(row)
-    if sheet.tokens + len(tokens) > MOST_TOKENS:
-        raise TooMuch()
+    check_tokens(sheet.tokens + len(tokens))
     before = list(sheet.named.values())
     items = items_of(tokens)
     check_counts(before + items)
     named = named_with(sheet.named, items)
     kinds = kinds_with(sheet.kinds, items, len(units_of(before)))
     return Sheet(sheet.row + row, sheet.tokens + len(tokens), named, kinds)
+
+
+# A row that is too long by itself is too long with the sheet, too.
+def formula_behind(sheet, row):
+    if len(sheet.row) + len(row) > MOST_BYTES_WITH_FORMULA:
+        raise TooMuch()
+    tokens = tokens_of(row)
+    check_tokens(sheet.tokens + TOKENS_ABOUT_FORMULA + len(tokens))
+    item = formula_of(tokens)
+    check_counts(list(sheet.named.values()) + [item])
+    check_right(item, sheet.named)
+    return Formula(item, found_kind(item, sheet.kinds))
+
+
+def check_tokens(count):
+    if count > MOST_TOKENS:
+        raise TooMuch()
 
 
 def units_of(items):

@@ -21,10 +21,6 @@ def is_number(token):
     return token[:1].isdigit()
 
 
-def is_zero(number):
-    return number.strip("0.") == ""
-
-
 # The row's bytes as a text. Only what a sheet may hold gets in, so isalpha and isdigit mean a to z and 0 to 9.
 def text_of(row):
     by_byte = {}
